@@ -1,0 +1,56 @@
+// Package byway: routes, and who may tell them to whom: see DOC.md.
+package byway
+
+import (
+	"byway/api"
+	"byway/policy"
+)
+
+// Policy is a policy that was read.
+type Policy struct {
+	inner policy.Policy
+}
+
+// Speaker is a speaker.
+type Speaker struct{}
+
+// Compile reads a policy (P3).
+func Compile(text string) (*Policy, api.Errno, int) {
+	inner, e, at := policy.Read(text)
+	if e != api.OK {
+		return nil, e, at
+	}
+	return &Policy{inner: inner}, api.OK, 0
+}
+
+// Print writes it (P4).
+func (p *Policy) Print() string {
+	if p == nil {
+		return ""
+	}
+	return p.inner.Print()
+}
+
+// Run runs it with a route (P5).
+func (p *Policy) Run(r api.Route) (api.Route, int, api.Errno) { return api.Route{}, 0, api.OK }
+
+// Encode gives a message's bytes (P6).
+func Encode(u api.Update) ([]byte, api.Errno) { return nil, api.OK }
+
+// Decode reads them (P6).
+func Decode(b []byte) (api.Update, api.Errno) { return api.Update{}, api.OK }
+
+// New makes a speaker (P7).
+func New(in []*Policy, out []*Policy) (*Speaker, api.Errno) { return nil, api.OK }
+
+// Up lets a peer be up (P8).
+func (s *Speaker) Up(peer int) ([]api.Told, api.Errno) { return nil, api.OK }
+
+// Down lets a peer be down (P8).
+func (s *Speaker) Down(peer int) ([]api.Told, api.Errno) { return nil, api.OK }
+
+// Feed brings a peer's message (P8).
+func (s *Speaker) Feed(peer int, b []byte) ([]api.Told, api.Errno) { return nil, api.OK }
+
+// Best tells the best routes (P10).
+func (s *Speaker) Best() []api.Kept { return nil }

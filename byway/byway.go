@@ -4,6 +4,7 @@ package byway
 import (
 	"byway/api"
 	"byway/policy"
+	"byway/routes"
 )
 
 // Policy is a policy that was read.
@@ -32,7 +33,16 @@ func (p *Policy) Print() string {
 }
 
 // Run runs it with a route (P5).
-func (p *Policy) Run(r api.Route) (api.Route, int, api.Errno) { return api.Route{}, 0, api.OK }
+func (p *Policy) Run(r api.Route) (api.Route, int, api.Errno) {
+	if !routes.Valid(r) {
+		return api.Route{}, 0, api.ErrRoute
+	}
+	if p == nil {
+		return api.Route{}, api.Reject, api.OK
+	}
+	out, verdict := p.inner.Run(r)
+	return out, verdict, api.OK
+}
 
 // Encode gives a message's bytes (P6).
 func Encode(u api.Update) ([]byte, api.Errno) { return nil, api.OK }

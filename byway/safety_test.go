@@ -73,7 +73,7 @@ func TestChangedText(t *testing.T) {
 
 // TestTextNotKept: the memory of the text may be written over (P2).
 func TestTextNotKept(t *testing.T) {
-	for _, text := range []string{"accept;\n", "way a = 1;\nif path like a then {\n}\n"} {
+	for _, text := range []string{"accept;\n", "way a = 1;\nif path like a then {\naccept;\n}\n"} {
 		b := []byte(text)
 		p := mustCompile(t, unsafe.String(&b[0], len(b)))
 		for i := range b {
@@ -81,6 +81,9 @@ func TestTextNotKept(t *testing.T) {
 		}
 		if got := p.Print(); got != text {
 			t.Errorf("Print = %q, want %q", got, text)
+		}
+		if _, verdict, e := p.Run(api.Route{Path: []int{1}}); e != api.OK || verdict != api.Accept {
+			t.Errorf("Run of %q = %d, %d", text, verdict, e)
 		}
 	}
 }

@@ -1,4 +1,4 @@
-// Package nets: what a net is.
+// Package nets: what a net is, and which one is within which.
 package nets
 
 import "byway/api"
@@ -12,4 +12,9 @@ func Valid(n api.Net) bool {
 		return false
 	}
 	return n.Addr&(api.MaxNumber>>n.Len) == 0
+}
+
+// Within tells whether the first bits of n are those of prefix.
+func Within(n, prefix api.Net) bool {
+	return n.Len >= prefix.Len && (n.Addr^prefix.Addr)>>(MaxLen-prefix.Len) == 0
 }

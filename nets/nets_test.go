@@ -20,3 +20,29 @@ func TestValid(t *testing.T) {
 		}
 	}
 }
+
+func TestWithin(t *testing.T) {
+	ten := api.Net{Addr: 10 << 24, Len: 8}
+	for _, c := range []struct {
+		n, prefix api.Net
+		want      bool
+	}{
+		{ten, ten, true},
+		{api.Net{Addr: 10<<24 | 255<<16, Len: 16}, ten, true},
+		{api.Net{Addr: 10<<24 | 1, Len: 32}, ten, true},
+		{api.Net{Addr: 11 << 24, Len: 8}, ten, false},
+		{api.Net{Addr: 10 << 24, Len: 7}, ten, false},
+		{api.Net{}, ten, false},
+		{ten, api.Net{}, true},
+		{api.Net{}, api.Net{}, true},
+		{api.Net{Addr: api.MaxNumber, Len: 32}, api.Net{}, true},
+		{api.Net{Addr: api.MaxNumber, Len: 32}, api.Net{Addr: 1 << 31, Len: 1}, true},
+		{api.Net{Addr: 1<<31 - 1, Len: 32}, api.Net{Addr: 1 << 31, Len: 1}, false},
+		{api.Net{Addr: api.MaxNumber, Len: 32}, api.Net{Addr: api.MaxNumber, Len: 32}, true},
+		{api.Net{Addr: api.MaxNumber - 1, Len: 32}, api.Net{Addr: api.MaxNumber, Len: 32}, false},
+	} {
+		if got := Within(c.n, c.prefix); got != c.want {
+			t.Errorf("Within(%v, %v) = %v, want %v", c.n, c.prefix, got, c.want)
+		}
+	}
+}

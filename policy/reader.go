@@ -1,6 +1,8 @@
 package policy
 
 import (
+	"slices"
+
 	"byway/api"
 	"byway/nets"
 	"byway/token"
@@ -17,10 +19,11 @@ type reader struct {
 	syntax, name, number fault
 }
 
-// def is a NAME that is defined: Set or Way.
+// def is a NAME that is defined, as a set or as a way.
 type def struct {
 	name string
-	kind token.Kind
+	set  set
+	way  way
 }
 
 // fault is the place of the first fault of its sort.
@@ -81,32 +84,41 @@ func (r *reader) shut(kind token.Kind) {
 	r.depth--
 }
 
-// define reads the NAME of a DEF.
-func (r *reader) define(kind token.Kind) {
+// newName reads the NAME of a DEF.
+func (r *reader) newName() string {
 	t := r.take(token.Name)
-	if r.lookUp(t.Text) != token.None {
-		r.name.tell(t.At)
-		return
-	}
-	r.defs = append(r.defs, def{name: t.Text, kind: kind})
-}
-
-// use reads a NAME that must be defined as this kind.
-func (r *reader) use(kind token.Kind) {
-	t := r.take(token.Name)
-	if r.lookUp(t.Text) != kind {
+	if r.isDefined(t.Text) {
 		r.name.tell(t.At)
 	}
+	return t.Text
 }
 
-// lookUp tells what a name is defined as: None, if it is not.
-func (r *reader) lookUp(name string) token.Kind {
+func (r *reader) isDefined(name string) bool {
+	return slices.ContainsFunc(r.defs, func(d def) bool { return d.name == name })
+}
+
+// useSet reads a NAME that must be that of a set.
+func (r *reader) useSet() set {
+	t := r.take(token.Name)
 	for _, d := range r.defs {
-		if d.name == name {
-			return d.kind
+		if d.name == t.Text && d.set != nil {
+			return d.set
 		}
 	}
-	return token.None
+	r.name.tell(t.At)
+	return nil
+}
+
+// useWay reads a NAME that must be that of a way.
+func (r *reader) useWay() way {
+	t := r.take(token.Name)
+	for _, d := range r.defs {
+		if d.name == t.Text && d.way != nil {
+			return d.way
+		}
+	}
+	r.name.tell(t.At)
+	return nil
 }
 
 // numberWithin reads a NUMBER that may be least to most.
@@ -120,6 +132,6 @@ func (r *reader) numberWithin(least, most int) int {
 
 func (r *reader) length(least int) int { return r.numberWithin(least, nets.MaxLen) }
 
-func (r *reader) system() { r.numberWithin(1, api.MaxSystem) }
+func (r *reader) system() int { return r.numberWithin(1, api.MaxSystem) }
 
-func (r *reader) mark() { r.numberWithin(0, api.MaxMark) }
+func (r *reader) mark() int { return r.numberWithin(0, api.MaxMark) }

@@ -1,0 +1,42 @@
+// Package routes: what a route is.
+package routes
+
+import (
+	"byway/api"
+	"byway/nets"
+)
+
+// Valid tells whether r is a route.
+func Valid(r api.Route) bool {
+	return nets.Valid(r.Net) && validPath(r.Path) && validMarks(r.Marks) && validNumber(r.Pref) && validNumber(r.Med)
+}
+
+// Copy gives a route like r, with lists of its own.
+func Copy(r api.Route) api.Route {
+	// Not slices.Clone: of an empty list it may give a piece of the list itself.
+	r.Path = append([]int(nil), r.Path...)
+	r.Marks = append([]int(nil), r.Marks...)
+	return r
+}
+
+func validPath(path []int) bool {
+	for _, system := range path {
+		if system < 1 || system > api.MaxSystem {
+			return false
+		}
+	}
+	return len(path) <= api.MaxPath
+}
+
+func validMarks(marks []int) bool {
+	least := 0
+	for _, mark := range marks {
+		if mark < least || mark > api.MaxMark {
+			return false
+		}
+		least = mark + 1
+	}
+	return len(marks) <= api.MaxMarks
+}
+
+func validNumber(n int) bool { return n >= 0 && n <= api.MaxNumber }

@@ -3,6 +3,7 @@ package byway
 
 import (
 	"byway/api"
+	"byway/messages"
 	"byway/policy"
 	"byway/routes"
 )
@@ -45,10 +46,10 @@ func (p *Policy) Run(r api.Route) (api.Route, int, api.Errno) {
 }
 
 // Encode gives a message's bytes (P6).
-func Encode(u api.Update) ([]byte, api.Errno) { return nil, api.OK }
+func Encode(u api.Update) ([]byte, api.Errno) { return messages.Encode(u) }
 
 // Decode reads them (P6).
-func Decode(b []byte) (api.Update, api.Errno) { return api.Update{}, api.OK }
+func Decode(b []byte) (api.Update, api.Errno) { return messages.Decode(b) }
 
 // New makes a speaker (P7).
 func New(in []*Policy, out []*Policy) (*Speaker, api.Errno) { return nil, api.OK }

@@ -14,6 +14,14 @@ func Valid(n api.Net) bool {
 	return n.Addr&(api.MaxNumber>>n.Len) == 0
 }
 
+// Size tells how many bytes of its address a net of this length needs: none, if there is no such net.
+func Size(length int) int {
+	if length < 0 || length > MaxLen {
+		return 0
+	}
+	return (length + 7) / 8
+}
+
 // Within tells whether the first bits of n are those of prefix.
 func Within(n, prefix api.Net) bool {
 	return n.Len >= prefix.Len && (n.Addr^prefix.Addr)>>(MaxLen-prefix.Len) == 0

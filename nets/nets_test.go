@@ -46,3 +46,11 @@ func TestWithin(t *testing.T) {
 		}
 	}
 }
+
+func TestSize(t *testing.T) {
+	for length, want := range map[int]int{-1 << 63: 0, -1: 0, 0: 0, 1: 1, 7: 1, 8: 1, 9: 2, 16: 2, 17: 3, 24: 3, 25: 4, 31: 4, 32: 4, 33: 0, 255: 0, 1<<63 - 1: 0} {
+		if got := Size(length); got != want {
+			t.Errorf("Size(%d) = %d, want %d", length, got, want)
+		}
+	}
+}

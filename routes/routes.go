@@ -8,7 +8,7 @@ import (
 
 // Valid tells whether r is a route.
 func Valid(r api.Route) bool {
-	return nets.Valid(r.Net) && validPath(r.Path) && validMarks(r.Marks) && validNumber(r.Pref) && validNumber(r.Med)
+	return nets.Valid(r.Net) && ValidPath(r.Path) && ValidMarks(r.Marks) && validNumber(r.Pref) && validNumber(r.Med)
 }
 
 // Copy gives a route like r, with lists of its own.
@@ -19,7 +19,8 @@ func Copy(r api.Route) api.Route {
 	return r
 }
 
-func validPath(path []int) bool {
+// ValidPath tells whether a route may have this path.
+func ValidPath(path []int) bool {
 	for _, system := range path {
 		if system < 1 || system > api.MaxSystem {
 			return false
@@ -28,7 +29,8 @@ func validPath(path []int) bool {
 	return len(path) <= api.MaxPath
 }
 
-func validMarks(marks []int) bool {
+// ValidMarks tells whether a route may have these marks.
+func ValidMarks(marks []int) bool {
 	least := 0
 	for _, mark := range marks {
 		if mark < least || mark > api.MaxMark {

@@ -22,7 +22,7 @@ func TestValid(t *testing.T) {
 		{Net: api.Net{Addr: api.MaxNumber, Len: 32}, Path: []int{1, api.MaxSystem, 1}, Marks: []int{0, 1, api.MaxMark}, Pref: api.MaxNumber, Med: api.MaxNumber},
 		{Path: rising(api.MaxPath), Marks: rising(api.MaxMarks)},
 	} {
-		if !Valid(r) {
+		if !Valid(r) || !ValidPath(r.Path) || !ValidMarks(r.Marks) {
 			t.Errorf("case %d: %+v is a route", i, r)
 		}
 	}

@@ -2,10 +2,13 @@
 package byway
 
 import (
+	"slices"
+
 	"byway/api"
 	"byway/messages"
 	"byway/policy"
 	"byway/routes"
+	"byway/speaker"
 )
 
 // Policy is a policy that was read.
@@ -14,7 +17,9 @@ type Policy struct {
 }
 
 // Speaker is a speaker.
-type Speaker struct{}
+type Speaker struct {
+	inner speaker.Speaker
+}
 
 // Compile reads a policy (P3).
 func Compile(text string) (*Policy, api.Errno, int) {
@@ -52,16 +57,45 @@ func Encode(u api.Update) ([]byte, api.Errno) { return messages.Encode(u) }
 func Decode(b []byte) (api.Update, api.Errno) { return messages.Decode(b) }
 
 // New makes a speaker (P7).
-func New(in []*Policy, out []*Policy) (*Speaker, api.Errno) { return nil, api.OK }
+func New(in []*Policy, out []*Policy) (*Speaker, api.Errno) {
+	if len(in) < 1 || len(in) > api.MaxPeers || len(in) != len(out) || slices.Contains(in, nil) || slices.Contains(out, nil) {
+		return nil, api.ErrPeer
+	}
+	s := &Speaker{}
+	for i := range in {
+		s.inner.Add(in[i].inner, out[i].inner)
+	}
+	return s, api.OK
+}
 
 // Up lets a peer be up (P8).
-func (s *Speaker) Up(peer int) ([]api.Told, api.Errno) { return nil, api.OK }
+func (s *Speaker) Up(peer int) ([]api.Told, api.Errno) {
+	if s == nil {
+		return nil, api.ErrPeer
+	}
+	return s.inner.Up(peer)
+}
 
 // Down lets a peer be down (P8).
-func (s *Speaker) Down(peer int) ([]api.Told, api.Errno) { return nil, api.OK }
+func (s *Speaker) Down(peer int) ([]api.Told, api.Errno) {
+	if s == nil {
+		return nil, api.ErrPeer
+	}
+	return s.inner.Down(peer)
+}
 
 // Feed brings a peer's message (P8).
-func (s *Speaker) Feed(peer int, b []byte) ([]api.Told, api.Errno) { return nil, api.OK }
+func (s *Speaker) Feed(peer int, b []byte) ([]api.Told, api.Errno) {
+	if s == nil {
+		return nil, api.ErrPeer
+	}
+	return s.inner.Feed(peer, b)
+}
 
 // Best tells the best routes (P10).
-func (s *Speaker) Best() []api.Kept { return nil }
+func (s *Speaker) Best() []api.Kept {
+	if s == nil {
+		return nil
+	}
+	return s.inner.Best()
+}

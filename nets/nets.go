@@ -1,7 +1,11 @@
-// Package nets: what a net is, and which one is within which.
+// Package nets: what a net is, which one is ahead of which, and which one is within which.
 package nets
 
-import "byway/api"
+import (
+	"cmp"
+
+	"byway/api"
+)
 
 // MaxLen is how many bits an address has.
 const MaxLen = 32
@@ -12,6 +16,11 @@ func Valid(n api.Net) bool {
 		return false
 	}
 	return n.Addr&(api.MaxNumber>>n.Len) == 0
+}
+
+// Compare answers less than 0, if a is ahead of b, more, if it is behind b.
+func Compare(a, b api.Net) int {
+	return cmp.Or(cmp.Compare(a.Addr, b.Addr), cmp.Compare(a.Len, b.Len))
 }
 
 // Size tells how many bytes of its address a net of this length needs: none, if there is no such net.

@@ -54,3 +54,14 @@ func TestSize(t *testing.T) {
 		}
 	}
 }
+
+func TestCompare(t *testing.T) {
+	rising := []api.Net{{}, {Len: 1}, {Len: 32}, {Addr: 1, Len: 32}, {Addr: 10 << 24, Len: 7}, {Addr: 10 << 24, Len: 8}, {Addr: 10<<24 | 1, Len: 32}, {Addr: 1 << 31, Len: 1}, {Addr: api.MaxNumber, Len: 32}}
+	for i, a := range rising {
+		for j, b := range rising {
+			if got := Compare(a, b); got < 0 != (i < j) || got > 0 != (i > j) {
+				t.Errorf("Compare(%v, %v) = %d", a, b, got)
+			}
+		}
+	}
+}

@@ -1,7 +1,9 @@
-// Package routes: what a route is.
+// Package routes: what a route is, and a table of them.
 package routes
 
 import (
+	"slices"
+
 	"byway/api"
 	"byway/nets"
 )
@@ -9,6 +11,11 @@ import (
 // Valid tells whether r is a route.
 func Valid(r api.Route) bool {
 	return nets.Valid(r.Net) && ValidPath(r.Path) && ValidMarks(r.Marks) && validNumber(r.Pref) && validNumber(r.Med)
+}
+
+// Equal tells whether a and b are one route; of lists nil and empty are one.
+func Equal(a, b api.Route) bool {
+	return a.Net == b.Net && a.Pref == b.Pref && a.Med == b.Med && slices.Equal(a.Path, b.Path) && slices.Equal(a.Marks, b.Marks)
 }
 
 // Copy gives a route like r, with lists of its own.
